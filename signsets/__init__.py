@@ -1,0 +1,1 @@
+"""Signsets: sets of signs, told by ranges."""
