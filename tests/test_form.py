@@ -3,21 +3,41 @@
 import ast
 import inspect
 import pathlib
+import re
 import unittest
 import warnings
 
-from signsets import errors, ranges
+from signsets import classes, errors, ranges, tables, texts
 
 FOLDER = pathlib.Path(errors.__file__).parent
 ARGUMENTS = {
-    "members": ["size", "ranges"],
-    "plain": ["size", "ranges"],
-    "joined": ["size", "one", "other"],
-    "common": ["size", "one", "other"],
-    "less": ["size", "one", "other"],
-    "others": ["size", "ranges"],
-    "inside": ["size", "ranges", "number"],
+    ranges: {
+        "members": ["size", "ranges"],
+        "plain": ["size", "ranges"],
+        "joined": ["size", "one", "other"],
+        "common": ["size", "one", "other"],
+        "less": ["size", "one", "other"],
+        "others": ["size", "ranges"],
+        "inside": ["size", "ranges", "number"],
+    },
+    texts: {
+        "written": ["size", "ranges"],
+        "read": ["size", "text"],
+    },
+    tables: {
+        "table": ["size", "sets", "wide"],
+        "look": ["size", "told", "which", "number"],
+        "least": ["size", "sets"],
+    },
+    classes: {
+        "classes": ["size", "sets"],
+        "class_row": ["size", "sets"],
+        "by_classes": ["size", "sets"],
+    },
 }
+# Words that stand nowhere in the package, comments and strings included.
+WORDS = """type typing typing_extensions enum Enum IntEnum StrEnum Flag IntFlag Generic Protocol ABC ABCMeta
+    namedtuple NamedTuple TypedDict TYPE_CHECKING abstractmethod dataclass overload contextmanager""".split()
 ERRORS = ["SetError", "BadSize", "BadSet", "BadNumber", "BadText"]
 
 
@@ -26,11 +46,12 @@ def sources():
 
 
 class Interface(unittest.TestCase):
-    def test_functions_of_ranges(self):
-        for name, arguments in ARGUMENTS.items():
-            function = getattr(ranges, name)
-            self.assertEqual(list(inspect.signature(function).parameters), arguments)
-            self.assertEqual(function.__module__, "signsets.ranges")
+    def test_functions_of_each_module(self):
+        for module, functions in ARGUMENTS.items():
+            for name, arguments in functions.items():
+                function = getattr(module, name)
+                self.assertEqual(list(inspect.signature(function).parameters), arguments)
+                self.assertEqual(function.__module__, module.__name__)
 
     def test_classes_of_errors(self):
         for name in ERRORS:
@@ -49,6 +70,11 @@ class Files(unittest.TestCase):
             lines = source.decode("ascii").splitlines()
             self.assertLessEqual(len(lines), 399, name)
             self.assertLessEqual(max(len(line) for line in lines), 120, name)
+
+    def test_words_that_stand_nowhere(self):
+        for name, source in sources().items():
+            found = re.findall("[A-Za-z_0-9]+", source.decode("ascii"))
+            self.assertEqual([word for word in WORDS if word in found], [], name)
 
     def test_functions_are_short(self):
         for name, source in sources().items():

@@ -3,6 +3,7 @@
 import copy
 import unittest
 
+from helper import Case, all_sets, fewest, signs_of
 from signsets.ranges import common, inside, joined, less, members, others, plain
 
 ALL_64 = list(range(64))
@@ -32,25 +33,6 @@ SETS_OF_12 = [
 ]
 
 
-def signs_of(ranges):
-    return {sign for first, last in ranges for sign in range(first, last + 1)}
-
-
-def fewest(signs):
-    """The fewest ranges: a range begins where the sign ahead is missing, and ends where the next is."""
-    firsts = [sign for sign in sorted(signs) if sign - 1 not in signs]
-    lasts = [sign for sign in sorted(signs) if sign + 1 not in signs]
-    return list(zip(firsts, lasts))
-
-
-def all_sets(size):
-    """Every set of the size, each as single signs, falling."""
-    told = []
-    for bits in range(1 << size):
-        told.append([(sign, sign) for sign in reversed(range(size)) if bits >> sign & 1])
-    return told
-
-
 def halving(ranges, sign):
     """The search by halving, over lists that are cut, for comparison."""
     if not ranges:
@@ -62,14 +44,6 @@ def halving(ranges, sign):
     rest = ranges[:middle] if sign < first else ranges[middle + 1:]
     found, looked = halving(rest, sign)
     return found, [(first, last)] + looked
-
-
-class Case(unittest.TestCase):
-    def assert_ranges(self, told, expected):
-        self.assertEqual(told, expected)
-        self.assertIs(type(told), list)
-        for item in told:
-            self.assertIs(type(item), tuple)
 
 
 class Members(Case):

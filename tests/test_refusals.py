@@ -2,18 +2,38 @@
 
 import unittest
 
-from signsets.errors import BadNumber, BadSet, BadSize, SetError
+from helper import BAD_SIZES, Case
+from signsets.classes import by_classes, class_row, classes
+from signsets.errors import BadNumber, BadSize
 from signsets.ranges import common, inside, joined, less, members, others, plain
+from signsets.tables import least, table
+from signsets.texts import written
 
 ONE_SET = {
     "members": members,
     "plain": plain,
     "others": others,
     "inside": lambda size, ranges: inside(size, ranges, 0),
+    "written": written,
 }
-TWO_SETS = {"joined": joined, "common": common, "less": less}
+SOME_SETS = {
+    "table": lambda size, sets: table(size, sets, 1),
+    "least": least,
+    "classes": classes,
+    "class_row": class_row,
+    "by_classes": by_classes,
+}
+TWO_SETS = {
+    "joined": joined,
+    "common": common,
+    "less": less,
+    "table": lambda size, one, other: table(size, [one, other], 1),
+    "least": lambda size, one, other: least(size, [one, other]),
+    "classes": lambda size, one, other: classes(size, [one, other]),
+    "class_row": lambda size, one, other: class_row(size, [one, other]),
+    "by_classes": lambda size, one, other: by_classes(size, [one, other]),
+}
 
-BAD_SIZES = [0, -1, -64, 65, 66, 1000, 10 ** 5000, -10 ** 5000]
 # Ranges that cannot be where the size is 10.
 BAD_RANGES = [
     (-1, 3), (-1, -1), (-5, -2), (-1, 10),
@@ -22,18 +42,7 @@ BAD_RANGES = [
 ]
 
 
-class Case(unittest.TestCase):
-    def assert_refused(self, kind, ask, *handed):
-        with self.assertRaises(SetError) as caught:
-            ask(*handed)
-        self.assertIs(type(caught.exception), kind)
-        self.assertIsInstance(caught.exception, ValueError)
-        return caught.exception
-
-    def assert_bad_set(self, number, at, ask, *handed):
-        error = self.assert_refused(BadSet, ask, *handed)
-        self.assertEqual((error.number, error.at), (number, at))
-
+class Refusals(Case):
     def assert_bad_one(self, at, size, ranges):
         """Every function refuses the set, under the number that it is handed in with."""
         for ask in ONE_SET.values():
@@ -44,7 +53,7 @@ class Case(unittest.TestCase):
             self.assert_bad_set(0, at, ask, size, ranges, ranges)
 
 
-class Sizes(Case):
+class Sizes(Refusals):
     def test_bad_sizes(self):
         for size in BAD_SIZES:
             for ask in ONE_SET.values():
@@ -63,7 +72,7 @@ class Sizes(Case):
                 ask(size, [], [])
 
 
-class BadRanges(Case):
+class BadRanges(Refusals):
     def test_the_only_range(self):
         for bad in BAD_RANGES:
             self.assert_bad_one(0, 10, [bad])
@@ -90,7 +99,7 @@ class BadRanges(Case):
         self.assert_bad_one(0, 10, [(9, 10)])
 
 
-class TooManyRanges(Case):
+class TooManyRanges(Refusals):
     def test_forty_one_and_more(self):
         for many in (41, 42, 50, 80, 200):
             self.assert_bad_one(40, 10, [(2, 3)] * many)
@@ -111,7 +120,48 @@ class TooManyRanges(Case):
         self.assert_bad_one(40, 10, [(2, 3)] * 45 + [(5, 4)])
 
 
-class BadNumbers(Case):
+class SomeSets(Refusals):
+    def test_bad_sizes(self):
+        for size in BAD_SIZES:
+            for ask in SOME_SETS.values():
+                for sets in ([], [[]], [[]] * 6, [[(1, 0)]], [[], [(0, 0)] * 41]):
+                    self.assert_refused(BadSize, ask, size, sets)
+
+    def test_each_of_six_sets(self):
+        for number in range(6):
+            for bad in BAD_RANGES:
+                sets = [[(1, 2)], [], [(4, 9), (0, 9)], [(0, 0)] * 40, [(9, 9)], [(3, 3)]]
+                sets[number] = [(1, 2), (0, 9), bad, (5, 4)]
+                for ask in SOME_SETS.values():
+                    self.assert_bad_set(number, 2, ask, 10, sets)
+
+    def test_a_forty_first_range_of_each_of_six_sets(self):
+        for number in range(6):
+            sets = [[(0, 1)] * 40 for _ in range(6)]
+            sets[number].append((0, 1))
+            for ask in SOME_SETS.values():
+                self.assert_bad_set(number, 40, ask, 10, sets)
+
+    def test_the_first_of_several_bad_sets(self):
+        bad, long = [(0, 1), (9, 10)], [(0, 1)] * 41
+        for ask in SOME_SETS.values():
+            self.assert_bad_set(0, 1, ask, 10, [bad, long, long, long, long, long])
+            self.assert_bad_set(0, 40, ask, 10, [long, bad, bad, bad, bad, bad])
+            self.assert_bad_set(2, 1, ask, 10, [[], [(0, 9)], bad, long, [], [(1, 0)]])
+            self.assert_bad_set(3, 40, ask, 10, [[], [(0, 9)], [], long, [], [(1, 0)]])
+
+    def test_a_bad_seventh_set(self):
+        for ask in SOME_SETS.values():
+            self.assert_bad_set(6, 1, ask, 10, [[(0, 1)]] * 6 + [[(0, 1), (9, 10)]])
+
+    def test_sets_are_unchanged(self):
+        sets = [[(4, 5)], [(2, 3), (9, 8), (0, 10)], []]
+        for ask in SOME_SETS.values():
+            self.assert_bad_set(1, 1, ask, 10, sets)
+            self.assertEqual(sets, [[(4, 5)], [(2, 3), (9, 8), (0, 10)], []])
+
+
+class BadNumbers(Refusals):
     def test_numbers_that_no_sign_has(self):
         for size in (1, 2, 10, 63, 64):
             for ranges in ([], [(0, 0)], [(0, size - 1)]):
@@ -124,7 +174,7 @@ class BadNumbers(Case):
             self.assertEqual(inside(size, [(0, size - 1)], size - 1), (True, [(0, size - 1)]))
 
 
-class WhichComesFirst(Case):
+class WhichComesFirst(Refusals):
     def test_a_bad_size_ahead_of_a_bad_set(self):
         for size in BAD_SIZES:
             for ranges in ([(1, 0)], [(-1, 0)], [(0, 10 ** 6)], [(0, 0)] * 41):
@@ -156,7 +206,7 @@ class WhichComesFirst(Case):
             self.assert_bad_set(0, 40, inside, 10, [(0, 1)] * 41, number)
 
 
-class NothingIsChangedByARefusal(Case):
+class NothingIsChangedByARefusal(Refusals):
     def test_lists_are_unchanged(self):
         ranges = [(4, 5), (2, 3), (9, 8), (0, 10)]
         self.assert_bad_one(2, 10, ranges)
